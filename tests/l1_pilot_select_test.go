@@ -413,6 +413,7 @@ func TestPilotNotValid(t *testing.T) {
 }
 
 func TestPilotManyNodes(t *testing.T) {
+	t.Parallel()
 	long := name("a")
 	for range 1000000 {
 		long = append(long, impl.PilotNode{Kind: impl.PilotNot, Kids: 1})

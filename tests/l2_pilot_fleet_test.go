@@ -323,6 +323,7 @@ func breaks(r *rand.Rand, f *impl.PilotFleet) {
 }
 
 func TestPilotValidRandom(t *testing.T) {
+	t.Parallel()
 	r := rand.New(rand.NewSource(4))
 	counts := map[string]int{}
 	for range 20000 {

@@ -31,6 +31,7 @@ func checkPromise2(t *testing.T, f impl.PilotFleet, codes map[int]int) {
 }
 
 func TestPromise2Random(t *testing.T) {
+	t.Parallel()
 	r := rand.New(rand.NewSource(6))
 	codes := map[int]int{}
 	for range 4000 {
@@ -45,6 +46,7 @@ func TestPromise2Random(t *testing.T) {
 
 // Berths with about as many copies as may stand on one.
 func TestPromise2Crowded(t *testing.T) {
+	t.Parallel()
 	r := rand.New(rand.NewSource(7))
 	codes := map[int]int{}
 	for range 120 {
@@ -71,6 +73,7 @@ func TestPromise2Crowded(t *testing.T) {
 
 // Two copies in every way that matters to each other, on three berths.
 func TestPromise2AllPairs(t *testing.T) {
+	t.Parallel()
 	codes := map[int]int{}
 	places := []string{"", "a1", "a2", "b1"}
 	var copies []impl.PilotCopy
