@@ -176,7 +176,8 @@ func modelAsks(m impl.Mate, note func(string)) ([]impl.MateAsk, []impl.MateParce
 		at := modelAskFor(asks, r.Want.Hold)
 		switch {
 		case at < 0 && len(asks) >= 40:
-			note("asked, and not remembered")
+			note("no room to ask")
+			continue
 		case at < 0:
 			note("asked")
 			asks = append(asks, now)
@@ -500,7 +501,7 @@ func TestMateTickAsRead(t *testing.T) {
 		next, _ := checkMateTick(t, m, rate, note)
 		checkMateValid(t, "behind a tick", next, true)
 	}
-	for _, what := range []string{"no rate", "the end", "killed", "down", "not known", "gone without a hold", "gone without an ask", "gone with another's ask", "forgotten", "given back", "no room to run", "pulled", "not asked while given back", "asked, and not remembered", "asked", "asked for another copy", "renewed", "not asked yet"} {
+	for _, what := range []string{"no rate", "the end", "killed", "down", "not known", "gone without a hold", "gone without an ask", "gone with another's ask", "forgotten", "given back", "no room to run", "pulled", "not asked while given back", "no room to ask", "asked", "asked for another copy", "renewed", "not asked yet"} {
 		if met[what] < 300 {
 			t.Errorf("the mates tell too little of %q: %v", what, met)
 		}

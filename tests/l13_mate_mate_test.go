@@ -3,6 +3,7 @@ package tests
 import (
 	"fmt"
 	"math"
+	"math/rand"
 	"reflect"
 	"slices"
 	"strings"
@@ -569,17 +570,17 @@ func TestMateGivesAreFew(t *testing.T) {
 	}
 }
 
-// Asks may be MateMaxHolds; what would be one more is sent, and not remembered, so that it is sent at each tick, and what is given for it does not count.
+// Asks may be MateMaxHolds; what would be one more is not asked for, at no tick, until there is room: all that is asked for is in Asks. The copies ask in their order.
 func TestMateAsksAreFew(t *testing.T) {
 	for _, n := range []int{0, 37, 38, 39, 40} {
 		m := impl.Mate{Name: "a", Up: true, Clock: 50, Known: true, Seen: 1, Asks: asksCalled(n, "m")}
 		m.Wants = []impl.MateWant{wantOf("a", "z"), wantOf("b", "x"), wantOf("c", "k")}
 		next, sent := checkMateTick(t, m, 1, noNote)
 		checkMateValid(t, "with many asks", next, true)
-		if tellSent(sent) != "asked z a 51, asked x b 51, asked k c 51, here 1" {
-			t.Errorf("with %d before: it sends %s", n, tellSent(sent))
-		}
 		room := min(3, 40-n)
+		if want := strings.Join(append([]string{"asked z a 51", "asked x b 51", "asked k c 51"}[:room:room], "here 1"), ", "); tellSent(sent) != want {
+			t.Errorf("with %d before: it sends %s, not %s", n, tellSent(sent), want)
+		}
 		kept := strings.Fields("z=a:51-51 x=b:51-51 k=c:51-51")[:room]
 		got := strings.Fields(tellAsks(slices.DeleteFunc(slices.Clone(next.Asks), func(a impl.MateAsk) bool { return a.Copy == "z" })))
 		slices.Reverse(got)
@@ -592,16 +593,52 @@ func TestMateAsksAreFew(t *testing.T) {
 				t.Errorf("with %d before: %s", n, tellMate(given))
 			}
 		}
-		_, sent = checkMateTick(t, next, 1, noNote)
-		if want := strings.Join(append([]string{"asked z a 52", "asked x b 52", "asked k c 52"}[room:], "here 1"), ", "); tellSent(sent) != want {
-			t.Errorf("with %d before: it sends %s, not %s", n, tellSent(sent), want)
+		again, sent := checkMateTick(t, next, 1, noNote)
+		if tellSent(sent) != "here 1" || tellAsks(again.Asks) != tellAsks(next.Asks) {
+			t.Errorf("with %d before: %s > %s", n, tellMate(again), tellSent(sent))
 		}
 	}
-	// With as many as may be, what is there is asked for anew, also for another copy.
-	m := impl.Mate{Name: "a", Up: true, Clock: 50, Known: true, Seen: 1, Asks: asksCalled(40, "m"), Wants: []impl.MateWant{wantOf("c", "mn007"), wantOf("z", "mn009")}}
+}
+
+// With as many asks as may be, what is there is asked for anew, also for another copy, and what is behind one that has no room.
+func TestMateAsksThatAreFull(t *testing.T) {
+	m := impl.Mate{Name: "a", Up: true, Clock: 50, Known: true, Seen: 1, Asks: asksCalled(40, "m"), Wants: []impl.MateWant{wantOf("a", "new"), wantOf("c", "mn007"), wantOf("z", "mn009")}}
 	next, sent := checkMateTick(t, m, 1, noNote)
 	if tellSent(sent) != "asked mn007 c 51, asked mn009 z 51, here 1" || tellAsks(next.Asks[6:10]) != "mn006=z:1-2 mn007=c:51-51 mn008=z:1-2 mn009=z:1-51" || len(next.Asks) != 40 {
 		t.Errorf("%s > %s", tellMate(next), tellSent(sent))
+	}
+	// One that goes makes room in the same tick.
+	m.Runs = []impl.MateRun{{Want: wantOf("q", "mn020"), State: impl.MateWaiting}}
+	next, sent = checkMateTick(t, m, 1, noNote)
+	if tellSent(sent) != "asked new a 51, asked mn007 c 51, asked mn009 z 51, back mn020 z 2, here 1" || len(next.Asks) != 40 || tellAsks(next.Asks[39:]) != "new=a:51-51" {
+		t.Errorf("%s > %s", tellMate(next), tellSent(sent))
+	}
+}
+
+// All that a mate asks for in a tick is in its Asks behind it, asked at that clock.
+func TestMateAsksAreRemembered(t *testing.T) {
+	t.Parallel()
+	r := rand.New(rand.NewSource(68))
+	asked, full := 0, 0
+	for range 10000 {
+		m := randomMate(r)
+		next, sent := impl.MateTick(m, 1+r.Intn(4))
+		for _, p := range sent {
+			if p.Kind != impl.MateAsked {
+				continue
+			}
+			asked++
+			at := modelAskFor(next.Asks, p.Hold)
+			if at < 0 || next.Asks[at].Copy != p.Copy || next.Asks[at].At != p.At || p.At != next.Clock {
+				t.Fatalf("%+v is not in the asks of %+v", p, next)
+			}
+		}
+		if len(next.Asks) == impl.MateMaxHolds {
+			full++
+		}
+	}
+	if asked < 1000 || full < 300 {
+		t.Errorf("the mates tell too little: %d, %d", asked, full)
 	}
 }
 
