@@ -384,7 +384,7 @@ func TestMateDoAsRead(t *testing.T) {
 	met := map[string]int{}
 	note := func(what string) { met[what]++ }
 	safe, settled := 0, 0
-	for range 6000 {
+	for range 4000 {
 		w := randomWorld(r)
 		checkWorldOk(t, "a random one", w, true)
 		checkAsked(t, w)
@@ -397,11 +397,11 @@ func TestMateDoAsRead(t *testing.T) {
 		next := checkDone(t, w, anyEvent(r, w), note)
 		checkWorldOk(t, "behind an event", next, true)
 	}
-	if safe < 500 || safe > 5500 || settled < 100 {
+	if safe < 400 || safe > 3600 || settled < 80 {
 		t.Errorf("the worlds tell too little: %d are safe, %d are settled", safe, settled)
 	}
 	for _, what := range []string{"no room", "sent 1", "sent 2", "sent 3", "sent 4", "sent 5", "sent 6", "not in flight", "no mate", "no room to double", "doubled", "lost", "machine falls", "mate falls", "rises", "put 0", "put 2", "put 3", "another kind", "no rate for it", "a rate that is none", "not read", "brought 1", "brought 2", "brought 3", "brought 4", "brought 5", "brought 6", "to no mate"} {
-		if met[what] < 10 {
+		if met[what] < 6 {
 			t.Errorf("the events tell too little of %q: %v", what, met)
 		}
 	}

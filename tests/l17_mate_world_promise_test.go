@@ -331,7 +331,7 @@ func TestPromise22(t *testing.T) {
 	w := impl.MateNewWorld([]string{"a", "b"})
 	w = impl.MateDo(w, impl.MateEvent{Kind: impl.MateEvPut, Wants: []impl.MateWant{{Copy: "x", Version: 1, Hold: "v", Dies: 7}}})
 	for _, c := range [][2]int{{0, 0}, {0, 1}, {1, 0}, {1, 1}, {0, 1000}, {1000, 0}, {1, 999}, {500, 500}, {999, 1}, {333, 444}} {
-		for _, rates := range [][]int{nil, {1, 4}, {4}, {3, 0}} {
+		for _, rates := range [][]int{nil, {4, 1}} {
 			checkPromise22(t, w, c[0], c[1], rates)
 		}
 	}
