@@ -81,20 +81,29 @@ func wholeMate(m impl.Mate) impl.Mate {
 	return plainMate(m)
 }
 
-// textsOf are all texts in a value.
-func textsOf(v reflect.Value) []string {
-	var texts []string
+// partsOf are all parts of a value that are of a kind.
+func partsOf(v reflect.Value, kind reflect.Kind) []reflect.Value {
+	var parts []reflect.Value
 	switch v.Kind() {
-	case reflect.String:
-		texts = append(texts, v.String())
+	case kind:
+		parts = append(parts, v)
 	case reflect.Struct:
 		for i := range v.NumField() {
-			texts = append(texts, textsOf(v.Field(i))...)
+			parts = append(parts, partsOf(v.Field(i), kind)...)
 		}
 	case reflect.Slice:
 		for i := range v.Len() {
-			texts = append(texts, textsOf(v.Index(i))...)
+			parts = append(parts, partsOf(v.Index(i), kind)...)
 		}
+	}
+	return parts
+}
+
+// textsOf are all texts in a value.
+func textsOf(v reflect.Value) []string {
+	var texts []string
+	for _, part := range partsOf(v, reflect.String) {
+		texts = append(texts, part.String())
 	}
 	return texts
 }
