@@ -144,20 +144,32 @@ func TestStewCountOfNotValid(t *testing.T) {
 			checkNoBook(t, fmt.Sprint(c.what, " ", n), b)
 		}
 	}
-	// What is wrong may be far from what is asked for.
+	for what, b := range brokenBooks() {
+		checkNoBook(t, what, b)
+	}
+}
+
+// brokenBooks are not valid, each for one reason that may be far from what is asked for.
+func brokenBooks() map[string]impl.StewBook {
+	books := map[string]impl.StewBook{}
 	for what, change := range map[string]func(b *impl.StewBook){
 		"the berths' order":    func(b *impl.StewBook) { slices.Reverse(b.Berths) },
 		"the services' order":  func(b *impl.StewBook) { slices.Reverse(b.Services) },
 		"the copies' order":    func(b *impl.StewBook) { b.Copies[7], b.Copies[8] = b.Copies[8], b.Copies[7] },
+		"a copy twice":         func(b *impl.StewBook) { b.Copies = slices.Insert(b.Copies, 1, b.Copies[1]) },
 		"a berth's name":       func(b *impl.StewBook) { b.Berths = append(b.Berths, impl.StewBerth{Name: "d_"}) },
 		"a copy of no service": func(b *impl.StewBook) { b.Services = b.Services[:3] },
 		"a copy on no berth":   func(b *impl.StewBook) { b.Copies[8].Berth = "d" },
 		"a service's name":     func(b *impl.StewBook) { b.Services[0].Name = "" },
+		"too many services": func(b *impl.StewBook) {
+			b.Services = append(b.Services, servicesCalled("x1", "x2", "x3", "x4", "x5")...)
+		},
 	} {
 		b := fullBook()
 		change(&b)
-		checkNoBook(t, what, b)
+		books[what] = b
 	}
+	return books
 }
 
 func TestStewCountOfGreat(t *testing.T) {
