@@ -130,7 +130,7 @@ func allWharfFaults() []string {
 	})
 }
 
-// checkWharf holds FleetValid against the second reading, and then all that chapter 28 says of this fleet. Breaks are the conditions that it does not meet, with a comma between.
+// checkWharf holds FleetValid against the second reading, and then all that chapters 28 and 29 say of this fleet. Breaks are the conditions that it does not meet, with a comma between.
 func checkWharf(t *testing.T, what string, w impl.FleetWorld, breaks string) {
 	t.Helper()
 	if got := impl.FleetValid(w); got != (breaks == "") {
@@ -140,6 +140,7 @@ func checkWharf(t *testing.T, what string, w impl.FleetWorld, breaks string) {
 		t.Errorf("%s: the second reading finds %q, not %q: %+v", what, got, breaks, w)
 	}
 	checkPlaceAndTell(t, what, w, noNote)
+	checkHearAndSweep(t, what, w)
 }
 
 // checkNoWharf does without the second reading, and without telling what may be very long.
@@ -150,6 +151,9 @@ func checkNoWharf(t *testing.T, what string, w impl.FleetWorld) {
 	}
 	if !sameFleet(impl.FleetPilot(w), impl.PilotFleet{}) || !sameWharf(impl.FleetPlace(w), impl.FleetWorld{}) || !sameWharf(impl.FleetTell(w), impl.FleetWorld{}) {
 		t.Errorf("%s: there is something", what)
+	}
+	if !sameWharf(impl.FleetHear(w, impl.FleetReport{Berth: "a"}), impl.FleetWorld{}) || !sameWharf(impl.FleetHear(w, impl.FleetReport{}), impl.FleetWorld{}) || !sameWharf(impl.FleetSweep(w), impl.FleetWorld{}) {
+		t.Errorf("%s: it hears or gives up something", what)
 	}
 	for _, berth := range []string{"", "a", "b", "c", "z"} {
 		if got := impl.FleetWants(w, berth); len(got) > 0 {

@@ -522,9 +522,9 @@ func TestFleetTellCodes(t *testing.T) {
 	checkFleetTell(t, "a long name", withService(emptyWharf(strings.Repeat("z", 20)), webKind(), "1@"+strings.Repeat("z", 20)+":0"), strings.Repeat("z", 20)+" 1 web-1=web-0")
 }
 
-// A fleet that is not valid has nothing, whatever is wrong with it.
-func TestFleetPlaceAndTellOfNone(t *testing.T) {
-	checkNoWharf(t, "nothing", impl.FleetWorld{})
+// brokenWharves are fleets in each of which one part is not as in a valid one.
+func brokenWharves() map[string]impl.FleetWorld {
+	broken := map[string]impl.FleetWorld{}
 	for what, change := range map[string]func(w *impl.FleetWorld){
 		"Stew":    func(w *impl.FleetWorld) { w.Stew.Now = -1 },
 		"Mates":   func(w *impl.FleetWorld) { w.Mates.Land.Time = 1 },
@@ -536,6 +536,15 @@ func TestFleetPlaceAndTellOfNone(t *testing.T) {
 	} {
 		w := fullWharf()
 		change(&w)
+		broken[what] = w
+	}
+	return broken
+}
+
+// A fleet that is not valid has nothing, whatever is wrong with it.
+func TestFleetPlaceAndTellOfNone(t *testing.T) {
+	checkNoWharf(t, "nothing", impl.FleetWorld{})
+	for what, w := range brokenWharves() {
 		checkNoWharf(t, what, w)
 	}
 }

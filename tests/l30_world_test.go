@@ -11,7 +11,7 @@ import (
 	"loop.example/wharffleet/impl"
 )
 
-// Of chapter 30 there is what makes a fleet with copies to place: FleetNew, and FleetDo of FleetWish, FleetDrain and FleetStewards.
+// Of chapter 30 there is what makes a fleet with copies that are placed: FleetNew, and FleetDo of FleetWish, FleetDrain, FleetStewards and FleetLand.
 
 func TestFleetNew(t *testing.T) {
 	berths := []impl.PilotBerth{
@@ -127,30 +127,13 @@ func TestFleetDoDrain(t *testing.T) {
 	}
 }
 
-// modelStewarded is a fleet behind what a steward asks for: in it are the slots of copies that are placed, and the kinds of services that are there.
+// modelStewarded is a fleet behind what a steward asks for.
 func modelStewarded(w impl.FleetWorld, kind int) impl.FleetWorld {
 	w = plainWharf(w)
 	for _, a := range impl.StewAsk(kind, w.Stew) {
 		w.Stew, _ = impl.StewApply(w.Stew, a)
 	}
-	var slots []impl.FleetSlot
-	var kinds []impl.FleetKind
-	for _, c := range w.Stew.Copies {
-		for _, s := range w.Slots {
-			if s.Service == c.Service && s.Number == c.Number && !c.Ending && c.Berth != "" {
-				slots = append(slots, s)
-			}
-		}
-	}
-	for _, s := range w.Stew.Services {
-		for _, k := range w.Kinds {
-			if k.Service == s.Name {
-				kinds = append(kinds, k)
-			}
-		}
-	}
-	w.Slots, w.Kinds = slots, kinds
-	return w
+	return modelTidy(w)
 }
 
 func TestFleetDoStewards(t *testing.T) {
@@ -209,10 +192,58 @@ func TestFleetDoStewards(t *testing.T) {
 	}
 }
 
+// The land gives up first, then places, then tells: so what is given up makes room, and its slot is free again.
+func TestFleetDoLand(t *testing.T) {
+	t.Parallel()
+	land := impl.FleetEvent{Kind: impl.FleetLand}
+	w := silentSince(withPlace(withPlace(webAt("1@a:0 2@b:1 3 4e"), "a", 3, webWant(1, 0)), "b", 4, webWant(2, 1)), 100, 59, 60, 60)
+	next := impl.FleetDo(w, land)
+	if got := placedIn(next) + "; " + toldIn(next); got != "web-2@b:1/3/v1 web-3@c:0/2/v7; a 4; b 4 web-2=web-1; c 1 web-3=web-0" || next.Stew.Now != 7 {
+		t.Errorf("%s at %d", got, next.Stew.Now)
+	}
+	if again := impl.FleetDo(next, land); !sameWharf(again, next) {
+		t.Errorf("the land finds something more: %s", placedIn(again))
+	}
+	// What it is told beside its Kind counts for nothing.
+	if got := impl.FleetDo(w, impl.FleetEvent{Kind: impl.FleetLand, A: math.MinInt, B: math.MaxInt, Rates: []int{1, 9}, Wish: impl.StewService{Name: "web", Want: 9}, Needs: impl.FleetKind{Rank: -1}}); !sameWharf(got, next) {
+		t.Errorf("%+v", got)
+	}
+	// One version is left, for what is given up; then nothing can be placed, but all is told.
+	w.Stew.Now = 999999
+	next = impl.FleetDo(w, land)
+	if got := copiesIn(next) + "; " + toldIn(next); got != "web-2@b/3/v1 web-3/1/v1; a 4; b 4 web-2=web-1" || next.Stew.Now != 1000000 {
+		t.Errorf("%s at %d", got, next.Stew.Now)
+	}
+	// None is left: what is told is what stands.
+	w.Stew.Now, w.Mates.Land.Places = 1000000, nil
+	next = impl.FleetDo(w, land)
+	if got := copiesIn(next) + "; " + toldIn(next); got != "web-1@a/3/v1 web-2@b/3/v1 web-3/1/v1 web-4e/1/v1; a 1 web-1=web-0; b 1 web-2=web-1" {
+		t.Error(got)
+	}
+	r := rand.New(rand.NewSource(302))
+	met := map[string]int{}
+	note := func(what string) { met[what]++ }
+	for i := range 1500 {
+		w := randomWharf(r)
+		if i%20 == 0 {
+			breakWharf(r, &w)
+		}
+		next, want := impl.FleetDo(w, land), modelTold(modelPlaced(modelSwept(w, note), note), note)
+		if !sameWharf(next, want) || impl.FleetValid(next) != impl.FleetValid(w) {
+			t.Fatalf("FleetLand of %+v\nis %+v\nnot %+v", w, next, want)
+		}
+	}
+	for _, what := range []string{"not valid", "gone 0", "gone 1", "gone 3", "placed 1", "placed 3", "goes: code 0", "comes: code 0", "comes: code 3"} {
+		if met[what] < 20 {
+			t.Errorf("the fleets tell too little of %q: %v", what, met)
+		}
+	}
+}
+
 func TestFleetDoMemory(t *testing.T) {
 	broken := fullWharf()
 	broken.Heard[0].Time = -1
-	for _, e := range []impl.FleetEvent{needsWish("web", webKind()), needsWish("x_y", webKind()), {Kind: impl.FleetDrain, A: 1}, {Kind: impl.FleetDrain, A: 9}, {Kind: impl.FleetStewards, A: 1}, {Kind: impl.FleetStewards, A: 5}, {Kind: impl.FleetStewards}} {
+	for _, e := range []impl.FleetEvent{needsWish("web", webKind()), needsWish("x_y", webKind()), {Kind: impl.FleetDrain, A: 1}, {Kind: impl.FleetDrain, A: 9}, {Kind: impl.FleetStewards, A: 1}, {Kind: impl.FleetStewards, A: 5}, {Kind: impl.FleetStewards}, {Kind: impl.FleetLand}} {
 		e.Wish.Name, e.Needs.Select = strings.Clone(e.Wish.Name), strings.Clone("ssd")
 		w := wharfWithRoom(fullWharf())
 		before := wholeWharf(w)
